@@ -1,0 +1,1 @@
+"""The cheapest options with which a plan can be kept."""

@@ -1,0 +1,5 @@
+"""The refusals of operations, one error class for each error code."""
+
+
+class BadParameter(Exception):
+    pass

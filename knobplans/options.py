@@ -51,10 +51,18 @@ def is_choice(options, choice):
     return True
 
 
-def chosen_settings(options, choice):
+def require_choice(options, choice):
     if not is_choice(options, choice):
         raise BadParameter()
+
+
+def chosen_settings(options, choice):
+    require_choice(options, choice)
     return [settings[setting] for settings, setting in zip(options.knobs, choice) if setting != -1]
+
+
+def price_of_choice(options, choice):
+    return sum([setting.price for setting in chosen_settings(options, choice)])
 
 
 def plan_of_choice(options, choice):

@@ -3,3 +3,7 @@
 
 class BadParameter(Exception):
     pass
+
+
+class ChoiceIsPossible(Exception):
+    pass

@@ -1,9 +1,8 @@
 """Point 1: the plan of a choice is valid and asks at least what the plan asks."""
 
-import itertools
 import unittest
 
-from tests.helper import BIG, EXAMPLE, ask, outcome
+from tests.helper import BIG, EXAMPLE, all_choices, ask, cut_plan, outcome
 
 MIXED = [
     ("load_plan", 5, 20, [0, 1, 3, 6, 0, 1, 2, 4, 5, 2, 0, 3, 2, 2, 21], [2, 3, 0, 4, 1, -2]),
@@ -25,21 +24,6 @@ MIXED = [
     ("impose_task", 2, 0, 2, 1, 1, 0),
 ]
 SETTING_COUNTS = (2, 3, 1)
-
-
-def choices():
-    return [list(choice) for choice in itertools.product(*[range(-1, count) for count in SETTING_COUNTS])]
-
-
-def cut_plan(answer):
-    """Status, count, deadline, tasks as rows and requirements as rows."""
-    status, count, deadline, task_count = answer[:4]
-    end = 4 + 5 * task_count
-    tasks = [tuple(answer[at:at + 5]) for at in range(4, end, 5)]
-    rest = answer[end + 1:]
-    requirements = [tuple(rest[at:at + 3]) for at in range(0, len(rest), 3)]
-    assert (status, len(requirements)) == (0, answer[end])
-    return count, deadline, tasks, requirements
 
 
 class PlanOfChoice(unittest.TestCase):
@@ -95,7 +79,7 @@ class PlanOfChoice(unittest.TestCase):
             outcome(MIXED, ("print_plan", [0, 1, 0])))
 
     def test_each_one_is_valid(self):
-        for choice in choices():
+        for choice in all_choices(SETTING_COUNTS):
             with self.subTest(choice=choice):
                 count, deadline, tasks, requirements = cut_plan(outcome(MIXED, ("print_plan", choice)))
                 load = ("load_plan", count, deadline, list(sum(tasks, ())), list(sum(requirements, ())))
@@ -103,7 +87,7 @@ class PlanOfChoice(unittest.TestCase):
 
     def test_each_one_asks_at_least_what_the_plan_asks(self):
         count, deadline, tasks, requirements = cut_plan(outcome(MIXED, ("print_plan", [-1, -1, -1])))
-        for choice in choices():
+        for choice in all_choices(SETTING_COUNTS):
             with self.subTest(choice=choice):
                 plan = cut_plan(outcome(MIXED, ("print_plan", choice)))
                 self.assertEqual(plan[:2], (count, deadline))

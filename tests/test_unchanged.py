@@ -1,9 +1,9 @@
-"""Point 8: operations that fail change nothing, nor do print_plan and print_knobs."""
+"""Point 8: operations that fail change nothing, nor do operations that only return something (5 to 13)."""
 
 import itertools
 import unittest
 
-from tests.helper import BIG, EXAMPLE, ask
+from tests.helper import BIG, CHAIN, CHAIN_CONFLICTS, EXAMPLE, OPEN, REFUSED_QUESTIONS, ask
 
 LOOKS = [("print_plan", list(choice)) for choice in ([-1, -1, -1], [0, 0, 0], [1, 1, 1], [0, -1, 0], [-1, 2, -1])]
 LOOKS.append(("print_knobs",))
@@ -50,6 +50,24 @@ REFUSED = [
     ("print_plan", [0, 0, 0, 0]),
     ("print_plan", [0, 3, 0]),
     ("print_plan", [0, -2, 0]),
+] + REFUSED_QUESTIONS
+
+# What the calls 5 to 13 answer behind CHAIN.
+QUESTIONS = [
+    (("print_plan", [0, 1, -1]), [0, 4, 10, 0, 4, 2, 1, 0, 3, 2, 0, 1, 0, -6, 2, 1, -2]),
+    (("price", [0, 1, -1]), [0, 3]),
+    (("possible", [1, 1, 0]), [0, 1]),
+    (("possible", [0, 1, 0]), [0, 0]),
+    (("conflict", [0, 1, 0]), [0, 0, -1, 0]),
+    (("conflict", [1, 1, 0]), [-2]),
+    (("cheapest", OPEN), [0, 1, 5, 1, 1, 0, 3] + CHAIN_CONFLICTS),
+    (("cheapest", [0, 0, -1]), [0, 0, 1, 0, 0, -1]),
+    (("check", OPEN, [1, 1, 0], CHAIN_CONFLICTS), [0, 1]),
+    (("check", OPEN, [0, 1, 0], CHAIN_CONFLICTS), [0, 0, 1]),
+    (("check", OPEN, [1, 1, 0], OPEN), [0, 0, 2, 0]),
+    (("check", OPEN, [], CHAIN_CONFLICTS), [0, 0, 3, 1, 1, 0]),
+    (("extra", 0, 0), [0, 1, 2]),
+    (("summary",), [0, 4, 10, 0, 2, 3, 12]),
 ]
 
 
@@ -98,6 +116,35 @@ class OnlyReturning(unittest.TestCase):
             given = ask(*EXAMPLE, *looks, *looks)
             wanted = [plain[str(look)] for look in looks]
             self.assertEqual(given[len(EXAMPLE):], wanted + wanted)
+
+    def test_each_of_the_calls_5_to_13(self):
+        for question, answer in QUESTIONS:
+            with self.subTest(question=question):
+                given = ask(*CHAIN, *LOOKS, question, *LOOKS, question, *LOOKS)
+                looks = given[len(CHAIN):len(CHAIN) + len(LOOKS)]
+                self.assertEqual(given[len(CHAIN):], looks + [answer] + looks + [answer] + looks)
+
+    def test_each_question_behind_each_other_one(self):
+        for (first, first_answer), (second, second_answer) in itertools.permutations(QUESTIONS, 2):
+            with self.subTest(first=first, second=second):
+                given = ask(*CHAIN, first, second, first)
+                self.assertEqual(given[len(CHAIN):], [first_answer, second_answer, first_answer])
+
+    def test_each_question_behind_each_refusal(self):
+        refusals = [refused for refused in REFUSED if ask(*CHAIN, refused)[-1] == [-1]]
+        self.assertGreater(len(refusals), 50)
+        for refused in refusals:
+            for question, answer in QUESTIONS:
+                with self.subTest(refused=refused, question=question):
+                    self.assertEqual(ask(*CHAIN, refused, question)[-2:], [[-1], answer])
+
+    def test_changes_behind_questions_are_as_if_nothing_had_been_asked(self):
+        changes = [("set_price", 0, 1, 9), ("impose_requirement", 1, 1, 2, 1, -4), ("add_knob", [1, 2]),
+                   ("print_plan", [1, 1, 0, 1]), ("print_knobs",), ("cheapest", [-1] * 4)]
+        plain = ask(*CHAIN, *changes)[-len(changes):]
+        for question, answer in QUESTIONS:
+            with self.subTest(question=question):
+                self.assertEqual(ask(*CHAIN, question, *changes)[-len(changes):], plain)
 
 
 if __name__ == "__main__":
